@@ -1,0 +1,1 @@
+"""Notfound: what follows from rules with and-not."""
